@@ -1,0 +1,1 @@
+"""Streams of the LZMA kind, unpacked in pieces of any size."""
