@@ -1,1 +1,1 @@
-"""Streams of the LZMA kind, unpacked in pieces of any size."""
+"""Streams of the LZMA kind, unpacked in pieces of any size, and packed."""

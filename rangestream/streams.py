@@ -1,10 +1,13 @@
 """The calls on a stream, handed in and answered as one list of whole numbers."""
 
+from rangestream.packing import pack
 from rangestream.unpacker import Unpacker
 
 BEGIN = 0
 GET = 1
 STATE = 2
+TOLD = 3
+PROP = 4
 
 # Of each call, by its number: how many whole numbers it has, and how many rows.
 FORMS = ((0, 0), (1, 1), (0, 0), (0, 0), (1, 0), (0, 1))
@@ -30,7 +33,11 @@ def answer_call(stream, call):
         return stream.get(call[1], call[2])
     if call[0] == STATE:
         return stream.state()
-    raise NotImplementedError("no such call is answered yet")
+    if call[0] == TOLD:
+        return stream.told()
+    if call[0] == PROP:
+        return stream.prop(call[1])
+    return pack(call[1])
 
 
 def split_calls(calls):

@@ -8,6 +8,7 @@ from rangestream.head import read_head
 from rangestream.steps import Steps
 
 MOST_ROOM = 8192
+LAST_PROP = 3
 
 IN_HEAD = 0
 IN_STEPS = 1
@@ -16,7 +17,11 @@ AT_DAMAGE = 3
 
 
 class Unpacker:
-    """A stream of which nothing is taken at first."""
+    """A stream of which nothing is taken at first.
+
+    steps is None until all bytes of the head are taken, and stays None if
+    the head is damaged.
+    """
 
     def __init__(self):
         self.feed = Feed()
@@ -44,6 +49,24 @@ class Unpacker:
     def state(self):
         """Answers how far the stream is, how many bytes were put out and how many taken."""
         return [self.stage, self.put_count, self.taken_count]
+
+    def told(self):
+        """Answers 1 and the size, or 0 if it isn't told."""
+        if self.steps is None:
+            return [-5]
+        if self.steps.head.size is None:
+            return [0]
+        return [1, self.steps.head.size]
+
+    def prop(self, which):
+        """Answers 0 and, by which, lc, lp, pb or reach."""
+        if which > LAST_PROP:
+            return [-3]
+        if self.steps is None:
+            return [-5]
+        head = self.steps.head
+        props = [head.lc, head.lp, head.pb, head.reach]
+        return [0, props[which]]
 
     def go_far(self, cap):
         """Goes on until cap bytes wait, the stream has ended, or the row has."""

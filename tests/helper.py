@@ -8,6 +8,7 @@ NOT_TOLD = 2 ** 64 - 1
 
 BEGIN = [0]
 STATE = [2]
+TOLD = [3]
 
 # What stands in the document's run for packed of no bytes.
 PACKED_NOTHING = [93, 0, 0, 1, 0, 255, 255, 255, 255, 255, 255, 255, 255, 0, 131, 255, 251, 255, 255, 192, 0, 0, 0]
@@ -15,6 +16,24 @@ PACKED_NOTHING = [93, 0, 0, 1, 0, 255, 255, 255, 255, 255, 255, 255, 255, 0, 131
 
 def get(cap, row):
     return [1, cap, len(row)] + list(row)
+
+
+def prop(which):
+    return [4, which]
+
+
+def pack(row):
+    return [5, len(row)] + list(row)
+
+
+# All that the head tells.
+HEAD_CALLS = [TOLD, prop(0), prop(1), prop(2), prop(3)]
+NO_HEAD = [[-5]] * 5
+
+
+def head_answers(size, lc, lp, pb, reach):
+    """What the calls of HEAD_CALLS answer; the size is None if it isn't told."""
+    return [[0] if size is None else [1, size], [0, lc], [0, lp], [0, pb], [0, reach]]
 
 
 def ask(*calls):
@@ -34,6 +53,30 @@ def ask(*calls):
 def head_bytes(d=93, reach=65536, size=NOT_TOLD, zero=0, code=0):
     head = [d] + list(reach.to_bytes(4, "little")) + list(size.to_bytes(8, "little"))
     return head + [zero] + list(code.to_bytes(4, "big"))
+
+
+# Each way in which a head is damaged.
+DAMAGED_HEADS = {
+    "d 225": head_bytes(d=225),
+    "d 255": head_bytes(d=255),
+    "d 225, though lc + lp would be 0": head_bytes(d=225, size=7),
+    "lc 5": head_bytes(d=5),
+    "lc 8": head_bytes(d=8),
+    "lc 4, lp 1": head_bytes(d=9 + 4),
+    "lc 1, lp 4": head_bytes(d=4 * 9 + 1),
+    "lc 3, lp 2, pb 4": head_bytes(d=4 * 45 + 2 * 9 + 3),
+    "d 224": head_bytes(d=224),
+    "reach 0": head_bytes(reach=0),
+    "reach 65537": head_bytes(reach=65537),
+    "reach 2 to the 24th": head_bytes(reach=2 ** 24),
+    "reach 2 to the 32nd less 1": head_bytes(reach=2 ** 32 - 1),
+    "size 2 to the 63rd": head_bytes(size=2 ** 63),
+    "size one below all ones": head_bytes(size=NOT_TOLD - 1),
+    "size without its lowest bits": head_bytes(size=NOT_TOLD - 255),
+    "byte 13 is 1": head_bytes(zero=1),
+    "byte 13 is 255": head_bytes(zero=255),
+    "code all ones": head_bytes(code=2 ** 32 - 1),
+}
 
 
 def unpack_whole(stream, room=8192, piece=400):
@@ -234,6 +277,12 @@ def packed(row):
     return Packer().literals(row).end().finished()
 
 
+def pack_answer(row):
+    """What pack of these bytes answers, if they're not too many."""
+    made = packed(row)
+    return [len(made)] + made
+
+
 def mixed(packer):
     """Steps of all kinds; what they come to is in packer.out."""
     packer.literals(b"abcdefghijklmnopqrstuvwxyz")
@@ -252,10 +301,10 @@ class Broken(Exception):
 
 
 class Model:
-    """What bytes come to, step by step, after the document's words."""
+    """What bytes come to, step by step, after the document's words; and what a sound head tells, else None."""
 
     def __init__(self, row):
-        self.row, self.at = row, 0
+        self.row, self.at, self.head = row, 0, None
         self.out, self.verdict, self.marks = [], "more", []
         try:
             self.read_head()
@@ -284,6 +333,8 @@ class Model:
             raise Broken()
         if 2 ** 63 <= self.size < NOT_TOLD or self.code == 2 ** 32 - 1:
             raise Broken()
+        size = None if self.size == NOT_TOLD else self.size
+        self.head = (size, self.lc, self.lp, self.pb, self.reach)
         self.p, self.st, self.r = {}, 0, [0, 0, 0, 0]
 
     def fill(self):
@@ -413,13 +464,13 @@ class Model:
 
 
 class Forecast:
-    """What get and state answer, told from how many bytes each step of a stream needs.
+    """What get, state, told and prop answer, told from how many bytes each step of a stream needs.
 
     A mark says of a step: how many bytes it needs, how many are out behind it, and "more", "end" or "damage".
     """
 
-    def __init__(self, marks, out):
-        self.marks, self.out = list(marks), out
+    def __init__(self, marks, out, head=None):
+        self.marks, self.out, self.head = list(marks), out, head
         self.come_to = self.put = self.taken = 0
         self.verdict = "more"
 
@@ -441,6 +492,12 @@ class Forecast:
     def state(self):
         kind = {"damage": 3, "end": 2, "more": 0 if self.taken < 18 else 1}[self.verdict]
         return [kind, self.put, self.taken]
+
+    def of_head(self, place):
+        """What the call answers that stands at this place of HEAD_CALLS."""
+        if self.taken < 18 or self.head is None:
+            return [-5]
+        return head_answers(*self.head)[place]
 
 
 def check_pieces(test, stream, forecast, pieces, rooms):

@@ -2,29 +2,7 @@
 
 import unittest
 
-from tests.helper import NOT_TOLD, STATE, Packer, ask, get, head_bytes, unpack_whole
-
-DAMAGED = {
-    "d 225": head_bytes(d=225),
-    "d 255": head_bytes(d=255),
-    "d 225, though lc + lp would be 0": head_bytes(d=225, size=7),
-    "lc 5": head_bytes(d=5),
-    "lc 8": head_bytes(d=8),
-    "lc 4, lp 1": head_bytes(d=9 + 4),
-    "lc 1, lp 4": head_bytes(d=4 * 9 + 1),
-    "lc 3, lp 2, pb 4": head_bytes(d=4 * 45 + 2 * 9 + 3),
-    "d 224": head_bytes(d=224),
-    "reach 0": head_bytes(reach=0),
-    "reach 65537": head_bytes(reach=65537),
-    "reach 2 to the 24th": head_bytes(reach=2 ** 24),
-    "reach 2 to the 32nd less 1": head_bytes(reach=2 ** 32 - 1),
-    "size 2 to the 63rd": head_bytes(size=2 ** 63),
-    "size one below all ones": head_bytes(size=NOT_TOLD - 1),
-    "size without its lowest bits": head_bytes(size=NOT_TOLD - 255),
-    "byte 13 is 1": head_bytes(zero=1),
-    "byte 13 is 255": head_bytes(zero=255),
-    "code all ones": head_bytes(code=2 ** 32 - 1),
-}
+from tests.helper import DAMAGED_HEADS, STATE, Packer, ask, get, head_bytes, unpack_whole
 
 SOUND = {
     "d 0": head_bytes(d=0),
@@ -41,7 +19,7 @@ SOUND = {
 
 class Head(unittest.TestCase):
     def test_each_damage(self):
-        for name, head in DAMAGED.items():
+        for name, head in DAMAGED_HEADS.items():
             with self.subTest(name):
                 told = ask(get(5, head), STATE, get(5, [0]), STATE)
                 self.assertEqual(told, [[0, 18], [3, 0, 18], [-2], [3, 0, 18]])
@@ -54,20 +32,20 @@ class Head(unittest.TestCase):
                 self.assertEqual(told[0][1], 18)
 
     def test_damage_is_told_at_the_last_byte_of_the_head(self):
-        for name, head in DAMAGED.items():
+        for name, head in DAMAGED_HEADS.items():
             with self.subTest(name):
                 told = ask(get(5, head[:1]), STATE, get(5, head[1:17]), STATE, get(5, head[17:] + [0, 0]), STATE)
                 self.assertEqual(told, [[0, 1], [0, 0, 1], [0, 16], [0, 0, 17], [0, 1], [3, 0, 18]])
 
     def test_byte_by_byte(self):
-        for head, last in ((DAMAGED["reach 0"], 3), (SOUND["d 0"], 1)):
+        for head, last in ((DAMAGED_HEADS["reach 0"], 3), (SOUND["d 0"], 1)):
             calls = [call for byte in head for call in (get(1, [byte]), STATE)]
             told = ask(*calls)
             self.assertEqual([answer[1] for answer in told[::2]], [1] * 18)
             self.assertEqual([answer[0] for answer in told[1::2]], [0] * 17 + [last])
 
     def test_nothing_more_is_taken_behind_a_damaged_head(self):
-        self.assertEqual(ask(get(8192, DAMAGED["lc 5"] + [1, 2, 3])), [[0, 18]])
+        self.assertEqual(ask(get(8192, DAMAGED_HEADS["lc 5"] + [1, 2, 3])), [[0, 18]])
 
     def test_lc_lp_pb_are_what_the_steps_go_by(self):
         row = [k * 37 % 256 for k in range(30)] + [200, 100] * 8 + [7, 7, 7, 8]

@@ -3,7 +3,7 @@
 import unittest
 from random import Random
 
-from tests.helper import BEGIN, STATE, Forecast, Model, Packer, ask, get
+from tests.helper import BEGIN, HEAD_CALLS, STATE, Forecast, Model, Packer, ask, get, pack, pack_answer
 
 LENGTHS = (2, 3, 4, 5, 9, 10, 17, 18, 100, 273)
 ROOMS = (0, 1, 2, 3, 20, 50, 300, 8192, 8192, 8192, 8193)
@@ -59,13 +59,17 @@ class RandomStreams(unittest.TestCase):
         for turn in range(3):
             stream = random_stream(chance)
             model = Model(stream)
-            forecast = Forecast(model.marks, model.out)
+            forecast = Forecast(model.marks, model.out, model.head)
             most = chance.choice((2, 9, 200))
-            for again in range(9):
+            for again in range(7):
                 row = stream[forecast.taken:][:chance.randrange(most + 1)]
                 room = chance.choice(ROOMS)
                 calls += [get(room, row), STATE]
                 wanted += [forecast.get(room, row), forecast.state()]
+                if again % 3 == 2:
+                    place = chance.randrange(5)
+                    calls += [HEAD_CALLS[place], pack(row)]
+                    wanted += [forecast.of_head(place), pack_answer(row)]
             calls.append(BEGIN)
             wanted.append([0])
             seen[forecast.verdict] = seen.get(forecast.verdict, 0) + 1
@@ -74,7 +78,7 @@ class RandomStreams(unittest.TestCase):
     def test_lines(self):
         chance = Random(18)
         seen = {}
-        for turn in range(400):
+        for turn in range(500):
             self.check_line(chance, seen)
         self.assertGreater(min(seen[verdict] for verdict in ("more", "end", "damage")), 100)
 
